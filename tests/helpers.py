@@ -47,3 +47,48 @@ def assert_plain(case, told):
             assert_plain(case, told[key])
     else:
         case.assertIs(type(told), int)
+
+
+def shifted(web, films):
+    """The same web with so many films more ahead of its numbers."""
+    return {end + 2 * films: web[end] + 2 * films for end in web}
+
+
+def walked_rims(web):
+    """The rims by the words of point 4, without the program: each a list of ends, from the least one on."""
+    found = []
+    passed = set()
+    for start in sorted(web):
+        if start not in passed:
+            ends = []
+            end = start
+            while end not in passed:
+                passed.add(end)
+                ends.append(end)
+                end = web[end ^ 1]
+            found.append(ends)
+    return found
+
+
+def web_of_rims(rows):
+    """The web that has these rims: what follows an end on its rim is next to its other end."""
+    web = {}
+    for ends in rows:
+        for at, end in enumerate(ends):
+            web[end ^ 1] = ends[(at + 1) % len(ends)]
+    return web
+
+
+class Dice:
+    """Numbers that look thrown but are the same in each run and under each Python."""
+
+    def __init__(self, seed):
+        self.now = seed * 2 + 1
+
+    def roll(self, many):
+        """A number from 0 to many - 1."""
+        self.now = (self.now * 6364136223846793005 + 1442695040888963407) % 2 ** 64
+        return (self.now >> 33) % many
+
+    def pick(self, choices):
+        return choices[self.roll(len(choices))]

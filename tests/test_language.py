@@ -99,6 +99,15 @@ class LanguageTest(unittest.TestCase):
                         if not isinstance(node, ast.FunctionDef):
                             self.assertNotIn(bound, dir(builtins))
 
+    def test_l15_nothing_has_the_name_of_an_import_of_its_file(self):
+        for name, tree in trees():
+            imported = [alias.asname or alias.name for node in ast.walk(tree) if isinstance(node, ast.ImportFrom)
+                        for alias in node.names]
+            self.assertEqual(len(set(imported)), len(imported), name)
+            for node in ast.walk(tree):
+                for bound in bound_names(node):
+                    self.assertNotIn(bound, imported, (name, node.lineno))
+
     def test_l6_statements_that_are_not_allowed(self):
         barred = (ast.Global, ast.AsyncFunctionDef, ast.AsyncFor, ast.AsyncWith, ast.Await)
         self.assertEqual([], [(name, node.lineno) for name, node in self.each_node(barred)])

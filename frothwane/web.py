@@ -58,6 +58,11 @@ def rims(web):
     return found
 
 
+def steps(web):
+    """For each end where the signs of a path lead from it: `o` to its other end, `t` to the next end."""
+    return {end: {"o": other(end), "t": web[end]} for end in web}
+
+
 def join_corner(web, one, two, three):
     """Write into a web being built that these ends follow one another round a corner."""
     web[one] = two

@@ -18,6 +18,13 @@ BARRED_WORDS = (
     r"\b(type|typing|typing_extensions|enum|Enum|IntEnum|StrEnum|Flag|IntFlag|Generic|Protocol|ABC|ABCMeta"
     r"|namedtuple|NamedTuple|TypedDict|TYPE_CHECKING|abstractmethod)\b|dataclass|overload|contextmanager"
 )
+BUILTIN_METHODS = set(
+    "append clear copy count endswith extend find get index insert isalnum isalpha isdigit islower isspace isupper items"
+    " join keys ljust lower lstrip partition pop remove replace reverse rfind rjust rpartition rsplit rstrip setdefault"
+    " split splitlines startswith strip update upper values zfill bit_length title capitalize swapcase casefold center"
+    " expandtabs removeprefix removesuffix rindex isascii isdecimal isnumeric istitle isidentifier isprintable"
+    " translate sort add discard".split()
+)
 BARRED_NAMES = set("register mro elements open input version_info with_traceback add_note".split())
 
 
@@ -111,6 +118,59 @@ class LanguageTest(unittest.TestCase):
     def test_l6_statements_that_are_not_allowed(self):
         barred = (ast.Global, ast.AsyncFunctionDef, ast.AsyncFor, ast.AsyncWith, ast.Await)
         self.assertEqual([], [(name, node.lineno) for name, node in self.each_node(barred)])
+
+    def own_methods(self):
+        return {item.name for name, node in self.each_node(ast.ClassDef) for item in node.body
+                if isinstance(item, ast.FunctionDef)}
+
+    def own_attributes(self):
+        return {node.attr for name, node in self.each_node(ast.Attribute) if isinstance(node.ctx, ast.Store)}
+
+    def test_l18_l25_l26_methods_and_attributes(self):
+        methods, attributes = self.own_methods(), self.own_attributes()
+        self.assertEqual(set(), methods & attributes)
+        for kind in (str, int, list, dict, set, bytes, tuple):
+            self.assertEqual(set(), {name for name in methods | attributes if name in dir(kind) and name[0] != "_"})
+        for name, node in self.each_node(ast.Attribute):
+            self.assertIn(node.attr, methods | attributes | BUILTIN_METHODS, (name, node.lineno))
+
+    def test_l5_double_underscore_methods(self):
+        self.assertEqual({"__init__"}, {name for name in self.own_methods() if name.startswith("_")})
+
+    def test_l3_l15_module_level(self):
+        kinds = (ast.Expr, ast.ImportFrom, ast.FunctionDef, ast.ClassDef, ast.Assign)
+        for name, tree in trees():
+            for node in tree.body:
+                self.assertIsInstance(node, kinds, (name, node.lineno))
+                if isinstance(node, ast.Expr):
+                    self.assertIsInstance(node.value, ast.Constant, (name, node.lineno))
+                if isinstance(node, ast.Assign):
+                    inner = [part for part in ast.walk(node.value) if isinstance(part, (ast.List, ast.Dict, ast.Set))]
+                    self.assertLessEqual(len(inner), 1, (name, node.lineno))
+                    calls = [part for part in ast.walk(node.value) if isinstance(part, ast.Call)]
+                    self.assertEqual([], calls, (name, node.lineno))
+
+    def test_l16_no_two_files_import_from_each_other(self):
+        leads = {name: {node.module.split(".")[-1] + ".py" for node in ast.walk(tree)
+                        if isinstance(node, ast.ImportFrom)} for name, tree in trees()}
+        done = set()
+        while len(done) < len(leads):
+            ready = {name for name in leads if name not in done and leads[name] <= done}
+            self.assertTrue(ready, set(leads) - done)
+            done |= ready
+
+    def test_l22_l23_nothing_that_is_iterated_at_once_is_stored(self):
+        for name, node in self.each_node((ast.Assign, ast.Return)):
+            if isinstance(node.value, ast.Call):
+                called = node.value.func
+                word = called.id if isinstance(called, ast.Name) else getattr(called, "attr", "")
+                self.assertNotIn(word, ("zip", "enumerate", "reversed", "range", "items", "keys", "values"),
+                                 (name, node.lineno))
+
+    def test_l19_only_own_errors_are_caught(self):
+        own = {node.name for name, node in self.each_node(ast.ClassDef) if name == "errors.py"}
+        for name, node in self.each_node(ast.ExceptHandler):
+            self.assertIn(node.type.id, own | {"KeyError"}, (name, node.lineno))
 
     def test_l20_is_stands_only_by_none_true_and_false(self):
         for name, node in self.each_node(ast.Compare):

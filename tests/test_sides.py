@@ -60,7 +60,7 @@ class PushAndPullTest(SidesCase):
                     self.assertEqual((after[beyonds[0]], after[beyonds[1]]), (after[2 * film], after[2 * film + 1]))
 
     def test_written_out(self):
-        # In comb(3, 3) film 0 has bubbles 0 and 2 on its hands; those with the ends 4 and 41 are beyond its ends.
+        # In comb(3, 3) film 0 has bubbles 0 and 7 on its hands; those with the ends 4 and 41 are beyond its ends.
         after = pushed(comb(3, 3), 0)
         self.assertEqual([5, 5, 6, 6, 6, 6, 6, 7, 7], sorted(len(ends) for ends in rims(after)))
         self.assertEqual([5, 5], [len(ends) for ends in rims(after) if 15 in ends or 2 in ends])
@@ -97,7 +97,7 @@ class BurstTest(SidesCase):
             self.assertEqual([6], [len(ends) for ends in rims(burst(web_of(rows), 20))])
 
     def test_written_out(self):
-        # Bubbles 0 and 2 of comb(3, 3) become one, the two beyond the ends of film 0 lose a side each.
+        # Bubbles 0 and 7 of comb(3, 3) become one, the two beyond the ends of film 0 lose a side each.
         after = burst(comb(3, 3), 0)
         self.assertEqual([5, 5, 6, 6, 6, 6, 6, 8], sorted(len(ends) for ends in rims(after)))
         self.assertEqual([8], [len(ends) for ends in rims(after) if 15 in ends])

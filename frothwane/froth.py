@@ -74,7 +74,7 @@ class Froth:
             case ("wait", num, den):
                 rows = self.wait(num, den)
             case _:
-                raise NoOrder("no order is told so")
+                raise NoOrder("a froth does no such order")
         self.day_book = self.day_book + rows
         return rows
 

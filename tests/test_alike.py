@@ -164,6 +164,14 @@ class LikenessCase(FrothCase):
             self.assertTrue(shown, (goal, path))
 
 
+    def assert_likeness(self, one, other):
+        """Alike or not as the second telling of point 21 has it, and told rightly."""
+        if wanted_telling(one, other) is None:
+            self.assert_parted(one, other)
+        else:
+            self.assert_telling(one, other)
+
+
 class TellingTest(LikenessCase):
     def test_written_out(self):
         # Each end of the comb of one bubble can be led to each other one; 0 is led to itself.
@@ -246,15 +254,11 @@ class PartingsTest(LikenessCase):
                     self.assert_telling(one, other)
 
     def test_combs_of_the_same_size(self):
-        # Whether they are alike is told by the second telling of point 21.
         for sizes in ([(1, 6), (2, 3), (3, 2), (6, 1)], [(1, 4), (2, 2), (4, 1)], [(1, 8), (2, 4)]):
             pictures = [like_gas(web_of(comb_corners(rows, cols))) for rows, cols in sizes]
             for one in pictures:
                 for other in pictures:
-                    if wanted_telling(one, other) is None:
-                        self.assert_parted(one, other)
-                    else:
-                        self.assert_telling(one, other)
+                    self.assert_likeness(one, other)
         wide, square = [like_gas(web_of(comb_corners(rows, cols))) for rows, cols in [(1, 4), (2, 2)]]
         self.assert_parted(wide, square)
 
@@ -270,24 +274,15 @@ class PartingsTest(LikenessCase):
 
     def test_thrown_pictures(self):
         pictures = thrown_pictures(18)
-        alike = 0
         for one in pictures:
             for other in pictures:
-                if wanted_telling(one, other) is None:
-                    self.assert_parted(one, other)
-                else:
-                    alike += 1
-                    self.assert_telling(one, other)
-        self.assertGreater(alike, 17)
+                self.assert_likeness(one, other)
 
     def test_webs_with_like_gas(self):
         pictures = [like_gas(web) for web in some_webs()[::5]]
         for one in pictures:
             for other in pictures:
-                if wanted_telling(one, other) is None:
-                    self.assert_parted(one, other)
-                else:
-                    self.assert_telling(one, other)
+                self.assert_likeness(one, other)
 
     def test_sixty_bubbles(self):
         froth = filled(60)

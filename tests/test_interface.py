@@ -22,6 +22,9 @@ FUNCTIONS = {
     "alike": {
         "telling": ["one", "other"], "partings": ["one", "other"], "telling_fault": ["one", "other", "pairs"],
     },
+    "roads": {"neighbours": ["web", "end"], "road": ["web", "one", "two"], "far": ["web", "one", "two"]},
+    "words": {"shown": ["order"], "read": ["text"], "shown_row": ["row"]},
+    "log": {"log_of": ["lines"]},
 }
 CLASSES = {
     ("froth", "Froth"): {
@@ -29,6 +32,11 @@ CLASSES = {
         "sides": ["name"], "bubble_of": ["end"], "web": [], "total": [], "next_to_go": [], "book": [],
         "ledger": ["name"], "gas_at": ["name", "hour"], "picture": [], "twin": [],
     },
+    ("log", "Log"): {
+        "__init__": ["rows", "cols", "gases"], "deed": ["order"], "back": [], "forth": [], "stand": [], "at": ["stand"],
+        "froth": [], "told": [],
+    },
+    ("desk", "Desk"): {"__init__": [], "say": ["text"]},
 }
 
 
